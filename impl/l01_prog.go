@@ -126,13 +126,12 @@ func (i Ins) unusedAreZero() bool {
 	return true
 }
 
+func isRegister(r int) bool {
+	return 0 <= r && r < Regs
+}
+
 func (i Ins) registersOk() bool {
-	for _, register := range [...]int{i.R, i.A, i.B} {
-		if register < 0 || register >= Regs {
-			return false
-		}
-	}
-	return true
+	return isRegister(i.R) && isRegister(i.A) && isRegister(i.B)
 }
 
 // cellCount is how many cells, from X on, a memory instruction may be about.
