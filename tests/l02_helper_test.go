@@ -2,6 +2,7 @@ package tests
 
 import (
 	"reflect"
+	"sync"
 	"testing"
 
 	"loop.example/g00713/impl"
@@ -201,6 +202,43 @@ func sharesMemory(answer any, args ...any) bool {
 		}
 	}
 	return false
+}
+
+// wantSameAgain holds what is answered again against what was answered first.
+func wantSameAgain[C any, A any](t *testing.T, cases []C, answers func(c C) A) {
+	t.Helper()
+	for _, c := range cases {
+		first := answers(c)
+		for range 3 {
+			if again := answers(c); !sameValue(again, first) {
+				t.Fatalf("%+v: %+v and then %+v", c, first, again)
+			}
+		}
+	}
+}
+
+// wantSameAtOnce is for several calls at once, which answer as they do one after
+// another, with the same arguments, too.
+func wantSameAtOnce[C any, A any](t *testing.T, cases []C, answers func(c C) A) {
+	t.Helper()
+	var want []A
+	for _, c := range cases {
+		want = append(want, answers(c))
+	}
+	var wg sync.WaitGroup
+	for from := range 8 {
+		wg.Add(1)
+		go func() {
+			defer wg.Done()
+			for k := range cases {
+				n := (from/2 + k) % len(cases)
+				if got := answers(cases[n]); !sameValue(got, want[n]) {
+					t.Errorf("%+v answers %+v, and alone %+v", cases[n], got, want[n])
+				}
+			}
+		}()
+	}
+	wg.Wait()
 }
 
 func TestHelperSharesMemory(t *testing.T) {

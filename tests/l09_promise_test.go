@@ -3,7 +3,6 @@ package tests
 import (
 	"math/rand"
 	"slices"
-	"sync"
 	"testing"
 
 	"loop.example/g00713/impl"
@@ -216,38 +215,11 @@ func jobAnswers(c jobCase) jobAnswer {
 }
 
 func TestJobsAgain(t *testing.T) {
-	for _, c := range jobCases(t) {
-		first := jobAnswers(c)
-		for range 3 {
-			if again := jobAnswers(c); !sameValue(again, first) {
-				t.Fatalf("%+v: %+v and then %+v", c, first, again)
-			}
-		}
-	}
+	wantSameAgain(t, jobCases(t), jobAnswers)
 }
 
-// Several calls at once answer as they do one after another, with the same
-// arguments, too.
 func TestJobsAtOnce(t *testing.T) {
-	cases := jobCases(t)
-	var want []jobAnswer
-	for _, c := range cases {
-		want = append(want, jobAnswers(c))
-	}
-	var wg sync.WaitGroup
-	for from := range 8 {
-		wg.Add(1)
-		go func() {
-			defer wg.Done()
-			for k := range cases {
-				n := (from/2 + k) % len(cases)
-				if got := jobAnswers(cases[n]); !sameValue(got, want[n]) {
-					t.Errorf("%+v answers %+v, and alone %+v", cases[n], got, want[n])
-				}
-			}
-		}()
-	}
-	wg.Wait()
+	wantSameAtOnce(t, jobCases(t), jobAnswers)
 }
 
 // spoiltPool is a pool with other values in all its lists, and behind them.
