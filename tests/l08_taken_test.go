@@ -107,15 +107,21 @@ func takenByRule(o impl.Outcome) ([]int, bool) {
 	return out, often
 }
 
+// randomOutcome may end in the middle of a thread.
+func randomOutcome(r *rand.Rand) impl.Outcome {
+	numbers := []int{0, 0, 0, 11, 12, 13, 14, -1, -11, maxInt, maxInt - 1, minInt, minInt + 1}
+	o := outcome()
+	for range r.Intn(45) {
+		o.R = append(o.R, numbers[r.Intn(len(numbers))])
+	}
+	return o
+}
+
 func TestTakenAgainstTheRule(t *testing.T) {
 	r := rand.New(rand.NewSource(8))
-	numbers := []int{0, 0, 0, 11, 12, 13, 14, -1, -11, maxInt, maxInt - 1, minInt, minInt + 1}
 	yes, no := 0, 0
 	for range 20000 {
-		o := outcome()
-		for range r.Intn(45) {
-			o.R = append(o.R, numbers[r.Intn(len(numbers))])
-		}
+		o := randomOutcome(r)
 		want, often := takenByRule(o)
 		wantTaken(t, o, often, want...)
 		if often {
